@@ -1,4 +1,4 @@
-"""The calls about one picture: it is drawn, gets another size, is turned, mirrored and cut out."""
+"""The calls about one picture: it is drawn, changed, undone and told of."""
 
 PICTURE = 0
 AREA = 1
@@ -7,19 +7,29 @@ BETWEEN = 3
 TURN = 4
 MIRROR = 5
 CUT = 6
+BORDER = 7
+LEAN = 8
+ROUNDED = 9
+UNDO = 10
+NOW = 11
+CELL = 12
+TOLD = 13
 
 # How many numbers stand behind each call's number; picture's cells come behind its three.
-NUMBER_COUNTS = (3, 2, 2, 2, 1, 1, 4)
+NUMBER_COUNTS = (3, 2, 2, 2, 1, 1, 4, 5, 1, 0, 0, 0, 2, 0)
 
 MOST_IN_A_LINE = 12
 MOST_IN_A_CELL = 65535
 MOST_TURNS = 3
 MOST_MIRRORS = 1
+MOST_LEANS = 11
+MOST_UNDONE = 16
 FIRST_D_REFUSED = 4294967296
 
 GRANTED = 0
 NOT_THERE = -1
 TOO_LARGE = -2
+NOTHING_TO_UNDO = -4
 D_TOO_LARGE = -9
 
 
@@ -38,10 +48,24 @@ class Picture:
 
 
 class Desk:
-    """What is kept from one call to the next."""
+    """What is kept from one call to the next: the picture, and what it was ahead of each change that can be undone."""
 
     def __init__(self):
         self.picture = Picture(1, [[0]])
+        self.earlier = []
+
+    def begin(self, fresh):
+        self.picture = fresh
+        self.earlier = []
+
+    def change(self, fresh):
+        self.earlier.append(self.picture)
+        if len(self.earlier) > MOST_UNDONE:
+            self.earlier.pop(0)
+        self.picture = fresh
+
+    def undo(self):
+        self.picture = self.earlier.pop()
 
 
 def common_divisor(first, second):
@@ -50,6 +74,11 @@ def common_divisor(first, second):
         first = second
         second = rest
     return first
+
+
+def nearest_whole(upper, lower):
+    # A half more and then down: so of two as near, the greater is taken.
+    return (2 * upper + lower) // (2 * lower)
 
 
 def divided(row, divisor):
@@ -150,6 +179,35 @@ def cut_out(picture, x, y, u, v):
     return in_lowest_terms(picture.d, [row[x:x + u] for row in picture.rows[y:y + v]])
 
 
+def lines_of(cell, width, height):
+    return [[cell] * width for y in range(height)]
+
+
+def bordered(picture, left, above, right, below, f):
+    # f is whole and the cells are d-ths; as all that is added is a multiple of d, d stays as low as it can be.
+    cell = f * picture.d
+    width = left + picture.width() + right
+    middle = [[cell] * left + row + [cell] * right for row in picture.rows]
+    return Picture(picture.d, lines_of(cell, width, above) + middle + lines_of(cell, width, below))
+
+
+def moved_on(row, steps):
+    staying = len(row) - steps % len(row)
+    return row[staying:] + row[:staying]
+
+
+def leaned(picture, k):
+    return Picture(picture.d, [moved_on(row, k * y) for y, row in enumerate(picture.rows)])
+
+
+def row_rounded(row, d):
+    return [nearest_whole(cell, d) for cell in row]
+
+
+def rounded(picture):
+    return Picture(1, [row_rounded(row, picture.d) for row in picture.rows])
+
+
 def drawn(w, h, cells):
     return Picture(1, [cells[y * w:y * w + w] for y in range(h)])
 
@@ -178,17 +236,46 @@ def cut_refusal(picture, x, y, u, v):
     return GRANTED
 
 
-def refusal(picture, call, numbers):
+def border_refusal(picture, left, above, right, below, f):
+    if left + picture.width() + right > MOST_IN_A_LINE or above + picture.height() + below > MOST_IN_A_LINE:
+        return NOT_THERE
+    return most_refusal(f, MOST_IN_A_CELL)
+
+
+def undo_refusal(earlier):
+    if len(earlier) == 0:
+        return NOTHING_TO_UNDO
+    return GRANTED
+
+
+def cell_refusal(picture, x, y):
+    if x >= picture.width() or y >= picture.height():
+        return NOT_THERE
+    return GRANTED
+
+
+def refusal(desk, call, numbers):
     """What refuses the call ahead of any work: a number below 0, or GRANTED."""
+    picture = desk.picture
     if call == PICTURE:
         return picture_refusal(numbers[0], numbers[1], numbers[3:])
+    if call in (AREA, NEAREST, BETWEEN):
+        return size_refusal(numbers[0], numbers[1])
     if call == TURN:
         return most_refusal(numbers[0], MOST_TURNS)
     if call == MIRROR:
         return most_refusal(numbers[0], MOST_MIRRORS)
     if call == CUT:
         return cut_refusal(picture, numbers[0], numbers[1], numbers[2], numbers[3])
-    return size_refusal(numbers[0], numbers[1])
+    if call == BORDER:
+        return border_refusal(picture, numbers[0], numbers[1], numbers[2], numbers[3], numbers[4])
+    if call == LEAN:
+        return most_refusal(numbers[0], MOST_LEANS)
+    if call == UNDO:
+        return undo_refusal(desk.earlier)
+    if call == CELL:
+        return cell_refusal(picture, numbers[0], numbers[1])
+    return GRANTED
 
 
 def changed(picture, call, numbers):
@@ -199,24 +286,74 @@ def changed(picture, call, numbers):
         return mirrored(picture, numbers[0])
     if call == CUT:
         return cut_out(picture, numbers[0], numbers[1], numbers[2], numbers[3])
+    if call == BORDER:
+        return bordered(picture, numbers[0], numbers[1], numbers[2], numbers[3], numbers[4])
+    if call == LEAN:
+        return leaned(picture, numbers[0])
+    if call == ROUNDED:
+        return rounded(picture)
     return resized(picture, call, numbers[0], numbers[1])
+
+
+def size_and_d(picture):
+    return [picture.width(), picture.height(), picture.d]
+
+
+def fraction_and_nearest(upper, lower):
+    divisor = common_divisor(upper, lower)
+    return [upper // divisor, lower // divisor, nearest_whole(upper, lower)]
+
+
+def answer_to_picture(desk, w, h, cells):
+    desk.begin(drawn(w, h, cells))
+    return [w, h]
 
 
 def answer_to_change(desk, call, numbers):
     fresh = changed(desk.picture, call, numbers)
     if fresh.d >= FIRST_D_REFUSED:
         return [D_TOO_LARGE]
-    desk.picture = fresh
-    return [fresh.width(), fresh.height(), fresh.d]
+    desk.change(fresh)
+    return size_and_d(fresh)
+
+
+def answer_to_undo(desk):
+    desk.undo()
+    return size_and_d(desk.picture)
+
+
+def answer_to_now(picture):
+    shown = size_and_d(picture)
+    for row in picture.rows:
+        shown.extend(row)
+    return shown
+
+
+def answer_to_cell(picture, x, y):
+    return fraction_and_nearest(picture.rows[y][x], picture.d)
+
+
+def answer_to_told(picture):
+    width = picture.width()
+    height = picture.height()
+    total = sum([sum(row) for row in picture.rows])
+    return [width, height] + fraction_and_nearest(total, picture.d * width * height)
 
 
 def answer_to_call(desk, call, numbers):
-    refused = refusal(desk.picture, call, numbers)
+    refused = refusal(desk, call, numbers)
     if refused != GRANTED:
         return [refused]
     if call == PICTURE:
-        desk.picture = drawn(numbers[0], numbers[1], numbers[3:])
-        return [numbers[0], numbers[1]]
+        return answer_to_picture(desk, numbers[0], numbers[1], numbers[3:])
+    if call == UNDO:
+        return answer_to_undo(desk)
+    if call == NOW:
+        return answer_to_now(desk.picture)
+    if call == CELL:
+        return answer_to_cell(desk.picture, numbers[0], numbers[1])
+    if call == TOLD:
+        return answer_to_told(desk.picture)
     return answer_to_change(desk, call, numbers)
 
 
@@ -227,8 +364,9 @@ def end_of_call(calls, place):
     return end
 
 
-def answers_at(desk, calls):
-    """Does the calls at this desk; for each call how many numbers are answered, then these."""
+def answers(calls):
+    """For each of the calls, which are about one new picture, how many numbers are answered, then these."""
+    desk = Desk()
     given = []
     place = 0
     while place < len(calls):
@@ -238,8 +376,3 @@ def answers_at(desk, calls):
         given.extend(answered)
         place = end
     return given
-
-
-def answers(calls):
-    """The answers to the calls, which are about one new picture, 1 by 1 with a 0."""
-    return answers_at(Desk(), calls)

@@ -1,7 +1,7 @@
 import unittest
 
-from tests.helper import (TOP, SIZES, answers_to, area, between, cut, mirror, mixed_cells, mixed_picture, nearest, picture,
-                          picture_behind, turn)
+from tests.helper import (TOP, SIZES, answers_to, area, between, border, cut, lean, mirror, mixed_cells, mixed_picture,
+                          nearest, picture, picture_behind, rounded, turn)
 
 
 class PictureIsDrawn(unittest.TestCase):
@@ -31,7 +31,8 @@ class PictureAtTheBeginning(unittest.TestCase):
 
     def test_each_change_may_come_first(self):
         for change, size in [(area(3, 2), [3, 2, 1]), (nearest(3, 2), [3, 2, 1]), (between(3, 2), [3, 2, 1]),
-                             (turn(1), [1, 1, 1]), (mirror(1), [1, 1, 1]), (cut(0, 0, 1, 1), [1, 1, 1])]:
+                             (turn(1), [1, 1, 1]), (mirror(1), [1, 1, 1]), (cut(0, 0, 1, 1), [1, 1, 1]),
+                             (border(1, 1, 0, 1, 0), [2, 3, 1]), (lean(3), [1, 1, 1]), (rounded(), [1, 1, 1])]:
             self.assertEqual(answers_to(change), [size])
             self.assertEqual(set(sum(picture_behind(change).rows, [])), {0})
 

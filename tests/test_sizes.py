@@ -163,33 +163,6 @@ class TurnedOrMirroredFirstOrLast(unittest.TestCase):
                                      fractions_behind(mixed_picture(u, v), mirror(k), change(5, 8)))
 
 
-class TheLowestD(unittest.TestCase):
-    def test_all_cells_0(self):
-        for change in [area, nearest, between]:
-            for u, v in SIZES:
-                calls = [picture(u, v, [0] * (u * v)), change(7, 11)]
-                self.assertEqual(answers_to(*calls)[1], [7, 11, 1])
-                self.assertEqual(set(flat(picture_behind(*calls).rows)), {0})
-
-    def test_a_common_divisor_is_taken_out(self):
-        self.assertEqual(answers_to(picture(2, 1, [2, 4]), area(1, 1))[1], [1, 1, 1])
-        self.assertEqual(answers_to(picture(2, 1, [2, 3]), area(1, 1))[1], [1, 1, 2])
-        self.assertEqual(answers_to(picture(4, 1, [2, 4, 6, 10]), area(1, 1))[1], [1, 1, 2])
-        shown = picture_behind(picture(4, 1, [2, 4, 6, 10]), area(1, 1))
-        self.assertEqual((shown.d, shown.rows), (2, [[11]]))
-
-    def test_no_divisor_of_all_numbers_alone_is_taken_out(self):
-        shown = picture_behind(picture(3, 1, [6, 12, 30]), area(1, 3))
-        self.assertEqual((shown.d, shown.rows), (1, [[16], [16], [16]]))
-
-    def test_behind_a_cut(self):
-        calls = [picture(2, 1, [0, 1]), between(4, 1)]
-        self.assertEqual(answers_to(*calls, cut(1, 0, 2, 1))[1:], [[4, 1, 4], [2, 1, 4]])
-        self.assertEqual(answers_to(*calls, cut(0, 0, 1, 1))[1:], [[4, 1, 4], [1, 1, 1]])
-        shown = picture_behind(*calls, cut(3, 0, 1, 1))
-        self.assertEqual((shown.d, shown.rows), (1, [[1]]))
-
-
 class SizesAreRefused(unittest.TestCase):
     def test_w_or_h_is_not_1_to_12(self):
         before = [mixed_picture(3, 2), area(2, 2)]
@@ -204,38 +177,3 @@ class SizesAreRefused(unittest.TestCase):
         for change in [area, nearest, between]:
             for w, h in [(1, 1), (12, 12), (1, 12), (12, 1)]:
                 self.assertEqual(answers_to(picture(1, 1, [3]), change(w, h))[1], [w, h, 1])
-
-
-class TooLargeAD(unittest.TestCase):
-    def sharper(self, rounds):
-        """Two cells, d is 2 * 4 ** rounds: each round cuts out two cells a quarter as far apart as those before."""
-        calls = [picture(2, 1, [0, 1])]
-        for times in range(rounds):
-            calls += [between(8, 1), cut(2, 0, 2, 1)]
-        return calls
-
-    def test_4294967296_is_refused_and_all_is_as_it_was(self):
-        before = self.sharper(15)
-        was = picture_behind(*before)
-        self.assertEqual(answers_to(*before)[-1], [2, 1, 2 ** 31])
-        self.assertEqual(max(flat(told_between(fractions_behind(*before), 4, 1)), key=lambda cell: cell.denominator)
-                         .denominator, 2 ** 32)
-        for change in [between(4, 1), between(8, 1), between(12, 12)]:
-            self.assertEqual(answers_to(*before, change, turn(0))[-2:], [[-9], [2, 1, 2 ** 31]])
-            shown = picture_behind(*before, change)
-            self.assertEqual((shown.d, shown.rows), (was.d, was.rows))
-
-    def test_by_areas_too(self):
-        before = self.sharper(14) + [between(5, 1)]
-        self.assertEqual(answers_to(*before, area(4, 1), turn(0))[-3:], [[5, 1, 5 * 2 ** 29], [-9], [5, 1, 5 * 2 ** 29]])
-
-    def test_what_is_below_it_is_granted(self):
-        self.assertEqual(answers_to(*self.sharper(15), between(3, 1))[-1], [3, 1, 2 ** 31])
-        self.assertEqual(answers_to(*self.sharper(14), between(12, 1))[-1], [12, 1, 3 * 2 ** 30])
-
-    def test_another_refusal_is_told_first(self):
-        self.assertEqual(answers_to(*self.sharper(15), between(13, 1), area(0, 1), cut(0, 0, 3, 1))[-3:], [[-1]] * 3)
-
-    def test_a_d_that_can_be_lower_is_not_refused(self):
-        # Before it is made lower, d is 2 ** 31 times 144 here.
-        self.assertEqual(answers_to(*self.sharper(15), nearest(12, 12), area(6, 12))[-1], [6, 12, 2 ** 31])

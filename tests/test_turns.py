@@ -1,19 +1,9 @@
-import unittest
 from fractions import Fraction
 
-from tests.helper import (SIZES, TOP, answers_to, area, cut, fractions_behind, mirror, mixed_cells, mixed_picture, picture,
-                          picture_behind, rows_of, turn)
+from tests.helper import (SIZES, TOP, Refusing, answers_to, area, cut, fractions_behind, mirror, mixed_cells,
+                          mixed_picture, picture, rows_of, turn)
 
 SIX = picture(3, 2, [1, 2, 3, 4, 5, 6])
-
-
-class Refusing(unittest.TestCase):
-    def assert_refused(self, before, call, number):
-        was = picture_behind(*before)
-        shown = picture_behind(*before, call)
-        size = [len(was.rows[0]), len(was.rows), was.d]
-        self.assertEqual(answers_to(*before, call, turn(0))[-2:], [[number], size], call)
-        self.assertEqual((shown.d, shown.rows), (was.d, was.rows), call)
 
 
 class Turns(Refusing):
